@@ -1,0 +1,1 @@
+"""Layoutswap: lossless migrations of tree records, compared and made from rules."""
