@@ -104,6 +104,19 @@ def is_plain(value, names):
     return not nodes_of(value, NO_PLAIN_VALUES) and set(used) <= set(names)
 
 
+def calls_of(tree, words):
+    """The calls of these builtins."""
+    return [node for node in nodes_of(tree, ast.Call) if getattr(node.func, "id", "") in words.split()]
+
+
+def is_plainly_comparable(value):
+    """Whether an expression shows that it is a number or a string, or a tuple of such."""
+    if isinstance(value, ast.Tuple):
+        return all(is_plainly_comparable(part) for part in value.elts)
+    called = getattr(getattr(value, "func", None), "id", "")
+    return isinstance(value, ast.Constant) or called in ("len", "int", "str", "ord", "repr")
+
+
 class Files(unittest.TestCase):
     def test_the_folder_contains_python_files_alone(self):
         names = [path.name for path in PACKAGE.iterdir() if path.name != "__pycache__"]
@@ -216,6 +229,91 @@ class Code(unittest.TestCase):
         for node in nodes_of(tree, DEFINITIONS):
             names = [getattr(part, "id", getattr(part, "attr", "")) for part in node.decorator_list]
             self.assertLessEqual(set(names), {"property", "staticmethod", "classmethod", "setter"})
+
+
+class BesideOperators(unittest.TestCase):
+    """Rules that hold because classes of the package have operators."""
+
+    @each_file
+    def test_lists_in_place_of_generator_expressions(self, name, text, tree):
+        for node in calls_of(tree, "any all min max sum sorted"):
+            self.assertEqual([part for part in node.args if isinstance(part, ast.GeneratorExp)], [], node.lineno)
+
+    @each_file
+    def test_what_is_compared_is_plainly_a_number_or_a_string(self, name, text, tree):
+        for node in calls_of(tree, "min max sorted"):
+            if len(node.args) > 1:
+                self.assertTrue(any(is_plainly_comparable(part) for part in node.args), node.lineno)
+            else:
+                self.assertTrue(isinstance(node.args[0], ast.ListComp), node.lineno)
+                self.assertTrue(is_plainly_comparable(node.args[0].elt), node.lineno)
+
+    @each_file
+    def test_only_literal_numbers_are_added_in_place(self, name, text, tree):
+        for node in nodes_of(tree, ast.AugAssign):
+            self.assertIsInstance(node.target, ast.Name, node.lineno)
+            self.assertIsInstance(node.op, (ast.Add, ast.Sub), node.lineno)
+            self.assertIsInstance(node.value, ast.Constant, node.lineno)
+            self.assertIs(type(node.value.value), int, node.lineno)
+
+    @each_file
+    def test_what_is_reversed(self, name, text, tree):
+        for node in calls_of(tree, "reversed"):
+            inner = node.args[0]
+            self.assertIn(getattr(getattr(inner, "func", None), "id", ""), ("list", "tuple", "sorted", "range"), node.lineno)
+
+    @each_file
+    def test_a_class_with_items_says_how_it_is_iterated_over(self, name, text, tree):
+        for node in nodes_of(tree, ast.ClassDef):
+            methods = [part.name for part in node.body if isinstance(part, ast.FunctionDef)]
+            if "__getitem__" in methods:
+                self.assertIn("__iter__", methods, node.name)
+            for word in ("(type)", "Meta", "metaclass="):
+                self.assertNotIn(word, text)
+
+    @each_file
+    def test_in_place_methods_and_hashes_do_not_occur(self, name, text, tree):
+        for node in nodes_of(tree, ast.FunctionDef):
+            self.assertNotRegex(node.name, r"\A__(i(add|sub|mul|floordiv|mod|pow|and|or|xor|lshift|rshift)|hash)__\Z")
+
+    @each_file
+    def test_exponents_are_literals(self, name, text, tree):
+        for node in nodes_of(tree, ast.BinOp):
+            if isinstance(node.op, ast.Pow):
+                self.assertIn(getattr(node.right, "value", None), range(65), node.lineno)
+
+    @each_file
+    def test_no_name_of_a_function_hides_an_import_or_a_class(self, name, text, tree):
+        barred = set(imported(tree)) | {node.name for node in nodes_of(tree, ast.ClassDef)}
+        for function in nodes_of(tree, ast.FunctionDef):
+            names = [node.arg for node in nodes_of(function, ast.arg)]
+            names += [node.id for node in nodes_of(function, ast.Name) if not isinstance(node.ctx, ast.Load)]
+            self.assertEqual(sorted(set(names) & barred), [], function.name)
+
+    def test_names_of_static_methods_and_properties_are_no_attributes(self):
+        trees = [ast.parse(path.read_text(encoding="utf-8")) for path in PACKAGE.rglob("*.py")]
+        decorated = [
+            part.name for tree in trees for node in nodes_of(tree, ast.ClassDef) for part in node.body
+            if isinstance(part, ast.FunctionDef) and part.decorator_list
+        ]
+        stored = [
+            node.attr for tree in trees for node in nodes_of(tree, ast.Attribute) if not isinstance(node.ctx, ast.Load)
+        ]
+        self.assertEqual(sorted(set(decorated) & set(stored)), [])
+
+    def test_generators_are_iterated_at_once(self):
+        trees = [ast.parse(path.read_text(encoding="utf-8")) for path in PACKAGE.rglob("*.py")]
+        functions = [node for tree in trees for node in nodes_of(tree, ast.FunctionDef)]
+        names = {node.name for node in functions if nodes_of(node, (ast.Yield, ast.YieldFrom))}
+        self.assertEqual(sorted(names), sorted(node.name for node in functions if node.name in names))
+        for tree in trees:
+            at_once = [node.iter for node in nodes_of(tree, (ast.For, ast.comprehension))]
+            at_once += [node.value for node in nodes_of(tree, ast.YieldFrom)]
+            for node in nodes_of(tree, ast.Call):
+                if getattr(node.func, "id", getattr(node.func, "attr", "")) in names:
+                    self.assertIn(node, at_once, node.lineno)
+                    for part in node.args:
+                        self.assertIsInstance(part, (ast.Name, ast.Attribute, ast.Constant), node.lineno)
 
 
 if __name__ == "__main__":
