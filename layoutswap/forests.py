@@ -31,6 +31,29 @@ def counts_by_size(kind, size, most):
     return rows
 
 
+def counted(factors, counts):
+    """Return how many forests there are, each counted so often as its number of trees has as factor."""
+    return sum([factor * counts[k] for k, factor in enumerate(factors)])
+
+
+def most_trees(factors):
+    """Return up to how many trees counts are needed: for the factors, and for the parts of a tree."""
+    return max(MOST_PARTS, len(factors))
+
+
+def counts_to_number(kind, factors, number):
+    """Return the counts by size up to the size at which a number is reached, and what is left of it there."""
+    most = most_trees(factors)
+    counts = [1]
+    rows = [counts_up_to(counts, most)]
+    left = number
+    while left >= counted(factors, rows[-1]):
+        left = left - counted(factors, rows[-1])
+        counts = next_counts(kind, counts)
+        rows.append(counts_up_to(counts, most))
+    return (rows, left)
+
+
 def tags_ahead(trees):
     """Return the list of all (tag, parts) of some trees: each tag ahead of its parts, from the left."""
     found = []

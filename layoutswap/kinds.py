@@ -1,5 +1,6 @@
 """Kinds of trees: what a kind is, its tags, and its polynomials P and F."""
 
+from layoutswap.errors import NoKind
 from layoutswap.names import is_integer, is_name
 
 FEWEST_VARIANTS = 2
@@ -26,6 +27,12 @@ def is_kind(thing):
         return False
     numbers = [parts for _, parts in thing]
     return 0 in numbers and any([parts >= 2 for parts in numbers])
+
+
+def check_kind(thing):
+    """Raise NoKind if any object is no kind."""
+    if not is_kind(thing):
+        raise NoKind("this is no kind")
 
 
 def tags_of(kind):

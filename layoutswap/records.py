@@ -2,9 +2,8 @@
 
 from layoutswap.errors import NoNumber, NoRecord
 from layoutswap.forests import (
-    counts_by_size, counts_up_to, forest_by_rank, next_counts, rank_of_forest, size_of_forest,
+    counted, counts_by_size, counts_to_number, forest_by_rank, most_trees, rank_of_forest, size_of_forest,
 )
-from layoutswap.kinds import MOST_PARTS
 from layoutswap.names import is_integer
 from layoutswap.trees import forests_in_order, is_number, is_tree
 
@@ -24,24 +23,14 @@ def size_of_record(record):
     return size_of_forest(record[2])
 
 
-def most_trees(layout):
-    """Return how many trees the counts for records of a layout must reach to."""
-    return max(MOST_PARTS, len(layout.factors))
-
-
-def records_by(layout, counts):
-    """Return how many records of a layout there are; the counts are for their size."""
-    return sum([factor * counts[k] for k, factor in enumerate(layout.factors)])
-
-
 def how_many_records(kind, layout, size):
     """Return the number of records of a size."""
-    return records_by(layout, counts_by_size(kind, size, most_trees(layout))[size])
+    return counted(layout.factors, counts_by_size(kind, size, most_trees(layout.factors))[size])
 
 
 def records_of(kind, layout, size):
     """Generate the records of a size, in order."""
-    rows = counts_by_size(kind, size, most_trees(layout))
+    rows = counts_by_size(kind, size, most_trees(layout.factors))
     for k, factor in enumerate(layout.factors):
         # A factor may be great: without a forest its places are not gone through.
         if rows[size][k] > 0:
@@ -56,8 +45,8 @@ def record_number(kind, layout, record):
         raise NoRecord("this is no record of the layout")
     k, i, trees = record
     size = size_of_record(record)
-    rows = counts_by_size(kind, size, most_trees(layout))
-    smaller = sum([records_by(layout, counts) for counts in rows[:size]])
+    rows = counts_by_size(kind, size, most_trees(layout.factors))
+    smaller = sum([counted(layout.factors, counts) for counts in rows[:size]])
     fewer = sum([layout[j] * rows[size][j] for j in range(k)])
     return smaller + fewer + i * rows[size][k] + rank_of_forest(kind, rows, trees)
 
@@ -79,14 +68,7 @@ def numbered_record(kind, layout, number):
         raise NoNumber("a number is an integer from 0 to 10 ^ 40")
     if layout.constant and number >= layout.total:
         return None
-    most = most_trees(layout)
-    counts = [1]
-    rows = [counts_up_to(counts, most)]
-    rank = number
-    while rank >= records_by(layout, rows[-1]):
-        rank = rank - records_by(layout, rows[-1])
-        counts = next_counts(kind, counts)
-        rows.append(counts_up_to(counts, most))
+    rows, rank = counts_to_number(kind, layout.factors, number)
     return record_by_rank(kind, layout, rows, rank)
 
 

@@ -1,7 +1,7 @@
 """Rests of polynomials by the F of a kind, and which layouts are like."""
 
-from layoutswap.errors import Mismatch, NoKind, NoNumber
-from layoutswap.kinds import difference, is_kind
+from layoutswap.errors import Mismatch, NoNumber
+from layoutswap.kinds import check_kind, difference
 from layoutswap.names import is_integer
 from layoutswap.polynomials import added, common_divisor, divided, multiplied, negated, text_of
 
@@ -12,12 +12,6 @@ GREATEST_PERIOD = 120
 def are_integers(thing):
     """Tell whether any object is a list or tuple of integers."""
     return isinstance(thing, (list, tuple)) and all([is_integer(factor) for factor in thing])
-
-
-def check_kind(kind):
-    """Raise NoKind if any object is no kind."""
-    if not is_kind(kind):
-        raise NoKind("this is no kind")
 
 
 def factors_beside(rest, other):

@@ -1,9 +1,7 @@
 """Trees of a kind: their sizes, their order, and their numbers."""
 
 from layoutswap.errors import NoNumber, NoTree
-from layoutswap.forests import (
-    counts_by_size, counts_up_to, forest_by_rank, next_counts, rank_of_forest, size_of_forest,
-)
+from layoutswap.forests import counts_by_size, counts_to_number, forest_by_rank, rank_of_forest, size_of_forest
 from layoutswap.kinds import MOST_PARTS
 from layoutswap.names import is_integer
 
@@ -88,11 +86,6 @@ def numbered_tree(kind, number):
     """Return the tree with a number."""
     if not is_number(number):
         raise NoNumber("a number is an integer from 0 to 10 ^ 40")
-    counts = [1]
-    rows = [counts_up_to(counts, MOST_PARTS)]
-    rank = number
-    while rank >= rows[-1][1]:
-        rank = rank - rows[-1][1]
-        counts = next_counts(kind, counts)
-        rows.append(counts_up_to(counts, MOST_PARTS))
+    # A tree is numbered as the records of the layout t are, of which it is the only tree.
+    rows, rank = counts_to_number(kind, (0, 1), number)
     return forest_by_rank(kind, rows, 1, len(rows) - 1, rank)[0]
