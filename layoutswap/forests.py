@@ -10,10 +10,12 @@ from layoutswap.kinds import MOST_PARTS, parts_of, polynomial
 
 def next_counts(kind, counts):
     """Return the counts of the size behind the one that these counts, all of them, are for."""
-    terms = [(parts, many) for parts, many in enumerate(polynomial(kind)) if many > 0]
     padded = counts + [0] * MOST_PARTS
+    found = [0] * len(counts)
     # Without its first tag a forest has one tag less, and the first tree's parts in place of this tree.
-    return [0] + [sum([many * padded[k + parts] for parts, many in terms]) for k in range(len(counts))]
+    for parts, many in enumerate(polynomial(kind)):
+        found = [total + many * more for total, more in zip(found, padded[parts:])]
+    return [0] + found
 
 
 def counts_up_to(counts, most):

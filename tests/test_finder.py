@@ -97,10 +97,9 @@ class Like(Case):
                 factors = [many * factor for factor in whole]
                 if all(0 <= factor + (k == 1) * many <= 100 for k, factor in enumerate(factors)):
                     for k in range(8 - len(whole) + 1):
-                        # k - 1 trees more than in F: from one place elsewhere many have to be made on the way.
                         start = [0] * k + [max(0, -factor) for factor in factors]
                         one = Layout(plus(start, T.factors))
-                        other = Layout(plus(plus(one.factors, [0] * k + factors), ()))
+                        other = Layout(plus(one.factors, [0] * k + factors))
                         if max(one.factors + other.factors) <= 100 and other.degree > 0:
                             self.check(kind, one, other)
                             self.check(kind, other, one)

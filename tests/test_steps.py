@@ -1,6 +1,5 @@
 """Steps (points 2 and 7, stage 6 of the interface)."""
 
-import itertools
 import unittest
 
 from layoutswap import steps
