@@ -95,11 +95,17 @@ def trees_from(kind, tags):
     return tuple(trees[::-1])
 
 
+def firsts_between(rows, many, size, low, high):
+    """Return how many forests of so many trees and a size have a first tree of a size from low to below high."""
+    return sum([rows[first][1] * rows[size - first][many - 1] for first in range(low, high)])
+
+
 def smaller_firsts(rows, many, size, first):
     """Return how many forests of so many trees and a size have a first tree of less than a size."""
-    if many == 1:
-        return 0
-    return sum([rows[less][1] * rows[size - less][many - 1] for less in range(1, first)])
+    # The shorter sum is taken, so that the sums for a deep tree do not all grow with its depth.
+    if 2 * first <= size:
+        return firsts_between(rows, many, size, 1, first)
+    return rows[size][many] - firsts_between(rows, many, size, first, size + 1)
 
 
 def trees_ahead(kind, counts, tag):
