@@ -81,7 +81,7 @@ def enlarging(kind, layout, amounts):
 def places_needed(kind, wanted):
     """Return, for each number of trees, so many places that all opens can be done, and all closes behind them."""
     terms = polynomial(kind)
-    needed = [0] * (len(wanted) + len(terms))
+    needed = [0 for _ in range(len(wanted) + len(terms))]
     for k, times in enumerate(wanted):
         if times > 0:
             needed[k + 1] = needed[k + 1] + times

@@ -29,7 +29,7 @@ def added(one, other):
 
 def multiplied(one, other):
     """Return the product of two polynomials."""
-    factors = [0] * (len(one) + len(other))
+    factors = [0 for _ in range(len(one) + len(other))]
     for j, first in enumerate(one):
         for k, second in enumerate(other):
             factors[j + k] = factors[j + k] + first * second
@@ -43,7 +43,7 @@ def divided(factors, divisor):
     """
     rest = list(factors)
     degree = len(divisor) - 1
-    quotient = [0] * len(factors)
+    quotient = [0 for _ in factors]
     for k in reversed(range(degree, len(factors))):
         times = rest[k] // divisor[degree]
         quotient[k - degree] = times

@@ -39,7 +39,8 @@ def changed(kind, layout, step):
         return layout
     places = n if word == "open" else -n
     terms = polynomial(kind)
-    factors = list(layout.factors) + [0] * (k + len(terms) - len(layout.factors))
+    many = max(len(layout.factors), k + len(terms))
+    factors = [layout[j] for j in range(many)]
     factors[k] = factors[k] - places
     for parts, many in enumerate(terms):
         factors[k - 1 + parts] = factors[k - 1 + parts] + places * many

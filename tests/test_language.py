@@ -46,6 +46,8 @@ NO_PLAIN_VALUES = (
     ast.Call, ast.ListComp, ast.SetComp, ast.DictComp, ast.GeneratorExp, ast.Set, ast.Attribute, ast.Lambda,
 )
 DEFINITIONS = (ast.FunctionDef, ast.ClassDef)
+CHANGING = "append clear extend insert pop remove reverse setdefault update sort add discard".split()
+NO_OPERATORS = ("__init__", "__setitem__", "__call__", "__enter__", "__exit__", "__iter__")
 
 
 def each_file(check):
@@ -115,6 +117,53 @@ def is_plainly_comparable(value):
         return all(is_plainly_comparable(part) for part in value.elts)
     called = getattr(getattr(value, "func", None), "id", "")
     return isinstance(value, ast.Constant) or called in ("len", "int", "str", "ord", "repr")
+
+
+def surely_created(value):
+    """Whether a value surely is a list, dict or set that the function itself creates, beside an __add__ and a __mul__."""
+    if isinstance(value, ast.BinOp):
+        return isinstance(value.op, ast.Add) and surely_created(value.left) and surely_created(value.right)
+    called = getattr(getattr(value, "func", None), "id", "")
+    made = isinstance(value, (ast.List, ast.ListComp, ast.Dict, ast.DictComp, ast.Set, ast.SetComp))
+    return made or called in ("list", "dict", "set", "sorted")
+
+
+def changed_values(function):
+    """The expressions whose items or attributes a function changes."""
+    stored = [node for node in nodes_of(function, (ast.Subscript, ast.Attribute)) if not isinstance(node.ctx, ast.Load)]
+    called = [node.func for node in nodes_of(function, ast.Call) if getattr(node.func, "attr", "") in CHANGING]
+    return [node.value for node in stored + called]
+
+
+def assigned_values(function, name):
+    """What a function assigns to a name; None where it is a parameter, a loop's variable or a part of a target."""
+    plain = [node for node in nodes_of(function, ast.Assign) if name in [getattr(to, "id", "") for to in node.targets]]
+    stored = [node for node in nodes_of(function, ast.Name) if node.id == name and not isinstance(node.ctx, ast.Load)]
+    is_parameter = name in [node.arg for node in nodes_of(function, ast.arg)]
+    return [node.value for node in plain] + [None] * (len(stored) - len(plain) + is_parameter)
+
+
+def run_by_operators(trees):
+    """The functions that operators and properties run, through what they call, by their names."""
+    functions = {}
+    for tree in trees:
+        for node in nodes_of(tree, DEFINITIONS):
+            functions.setdefault(node.name, []).append(node)
+    waiting = [
+        part for tree in trees for node in nodes_of(tree, ast.ClassDef) for part in node.body
+        if isinstance(part, ast.FunctionDef) and part.name not in NO_OPERATORS
+        and (part.name.startswith("__") or "property" in [getattr(word, "id", "") for word in part.decorator_list])
+    ]
+    found = []
+    while waiting:
+        node = waiting.pop()
+        if isinstance(node, ast.ClassDef):
+            waiting.extend(part for part in node.body if getattr(part, "name", "") == "__init__")
+        elif node not in found:
+            found.append(node)
+            for call in nodes_of(node, ast.Call):
+                waiting.extend(functions.get(getattr(call.func, "id", getattr(call.func, "attr", "")), []))
+    return found
 
 
 class Files(unittest.TestCase):
@@ -275,6 +324,17 @@ class BesideOperators(unittest.TestCase):
     def test_in_place_methods_and_hashes_do_not_occur(self, name, text, tree):
         for node in nodes_of(tree, ast.FunctionDef):
             self.assertNotRegex(node.name, r"\A__(i(add|sub|mul|floordiv|mod|pow|and|or|xor|lshift|rshift)|hash)__\Z")
+
+    def test_operators_change_only_what_they_surely_created(self):
+        found = run_by_operators([ast.parse(path.read_text(encoding="utf-8")) for path in PACKAGE.rglob("*.py")])
+        for name in ("__mul__", "__rshift__", "multiplied", "divided", "changed", "is_tree"):
+            self.assertIn(name, [node.name for node in found])
+        for function in found:
+            for value in changed_values(function):
+                name = getattr(value, "id", "")
+                if (function.name, name) != ("__init__", "self"):
+                    values = assigned_values(function, name)
+                    self.assertTrue(values and all(surely_created(part) for part in values), (function.name, ast.dump(value)))
 
     @each_file
     def test_exponents_are_literals(self, name, text, tree):
