@@ -6,6 +6,7 @@ have a size. Trees may be deep, so none of this calls itself.
 """
 
 from layoutswap.kinds import MOST_PARTS, parts_of, polynomial
+from layoutswap.patterns import nodes_ahead
 
 
 def next_counts(kind, counts):
@@ -56,27 +57,16 @@ def counts_to_number(kind, factors, number):
     return (rows, left)
 
 
-def tags_ahead(trees):
-    """Return the list of all (tag, parts) of some trees: each tag ahead of its parts, from the left."""
-    found = []
-    waiting = list(trees[::-1])
-    while waiting:
-        tree = waiting.pop()
-        found.append((tree[0], len(tree) - 1))
-        waiting.extend(tree[:0:-1])
-    return found
-
-
 def size_of_forest(trees):
     """Return the number of the tags of some trees."""
-    return len(tags_ahead(trees))
+    return len(nodes_ahead(trees))
 
 
 def sizes_ahead(trees):
-    """Return the list of all (tag, parts, size of its tree) of some trees, in the order of tags_ahead."""
+    """Return the list of all (tag, parts, size of its tree) of some trees, in the order of nodes_ahead."""
     found = []
     sizes = []
-    for tag, parts in tags_ahead(trees)[::-1]:
+    for tag, parts in nodes_ahead(trees)[::-1]:
         start = len(sizes) - parts
         size = 1 + sum(sizes[start:])
         sizes[start:] = [size]
@@ -85,7 +75,7 @@ def sizes_ahead(trees):
 
 
 def trees_from(kind, tags):
-    """Return the tuple of the trees that have these tags in the order of tags_ahead."""
+    """Return the tuple of the trees that have these tags in the order of nodes_ahead."""
     trees = []
     for tag in tags[::-1]:
         start = len(trees) - parts_of(kind, tag)

@@ -47,6 +47,20 @@ def steps_past(layout, other):
     return [("move", k, 0, n) for k, n in enumerate(layout.factors) if n > 0 and other[k] > 0]
 
 
+def led_through(migration, record):
+    """Return the record to which a migration leads a record of its source; nothing is checked."""
+    for place, step in enumerate(migration.steps):
+        record = led_on(migration.kind, migration.layouts[place], step, record)
+    return record
+
+
+def led_back_through(migration, record):
+    """Return the record that a migration leads to a record of its target; nothing is checked."""
+    for place in reversed(range(len(migration.steps))):
+        record = led_back(migration.kind, migration.layouts[place + 1], migration.steps[place], record)
+    return record
+
+
 class Migration:
     """A kind, a layout and the steps from it on; nothing changes it."""
 
@@ -59,8 +73,9 @@ class Migration:
         self.kind = kind
         self.source = layout
         self.steps = tuple(steps)
-        self._layouts = layouts_on_the_way(kind, layout, self.steps)
-        self.target = self._layouts[-1]
+        # The ones ahead of each step, and the one behind the last step.
+        self.layouts = layouts_on_the_way(kind, layout, self.steps)
+        self.target = self.layouts[-1]
 
     @classmethod
     def nothing(cls, kind, layout):
@@ -71,17 +86,13 @@ class Migration:
         """Return the record to which the migration leads a record of the source."""
         if record not in self:
             raise NoRecord("this is no record of the source")
-        for place, step in enumerate(self.steps):
-            record = led_on(self.kind, self._layouts[place], step, record)
-        return record
+        return led_through(self, record)
 
     def back(self, record):
         """Return the record of the source that the migration leads to a record of the target."""
         if not is_record(self.kind, self.target, record):
             raise NoRecord("this is no record of the target")
-        for place in reversed(range(len(self.steps))):
-            record = led_back(self.kind, self._layouts[place + 1], self.steps[place], record)
-        return record
+        return led_back_through(self, record)
 
     def way(self, record):
         """Generate the record and the one behind each step."""
@@ -89,7 +100,7 @@ class Migration:
             raise NoRecord("this is no record of the source")
         yield record
         for place, step in enumerate(self.steps):
-            record = led_on(self.kind, self._layouts[place], step, record)
+            record = led_on(self.kind, self.layouts[place], step, record)
             yield record
 
     def __contains__(self, x):
@@ -98,7 +109,7 @@ class Migration:
     def __invert__(self):
         steps = []
         for place in reversed(range(len(self.steps))):
-            steps.extend(steps_back(self._layouts[place], self.steps[place]))
+            steps.extend(steps_back(self.layouts[place], self.steps[place]))
         return Migration(self.kind, self.target, steps)
 
     def __rshift__(self, other):

@@ -2,7 +2,7 @@
 
 from layoutswap.errors import NoNumber, NoRecord
 from layoutswap.forests import (
-    counted, counts_by_size, counts_to_number, forest_by_rank, most_trees, rank_of_forest, size_of_forest,
+    counted, counts_by_size, counts_to_number, forest_by_rank, most_trees, rank_of_forest, size_of_forest, sizes_ahead,
 )
 from layoutswap.names import is_integer
 from layoutswap.trees import forests_in_order, is_number, is_tree
@@ -21,6 +21,15 @@ def is_record(kind, layout, thing):
 def size_of_record(record):
     """Return the size of a record: that of all its trees."""
     return size_of_forest(record[2])
+
+
+def order_of_record(kind, record):
+    """Return what records are ordered by: a tuple of integers."""
+    k, i, trees = record
+    places = {variant: at for at, variant in enumerate(kind)}
+    # Two trees are told apart by the first tag, from the left, that has another size or variant.
+    order = [(size, places[tag, parts]) for tag, parts, size in sizes_ahead(trees)]
+    return (size_of_record(record), k, i) + tuple([number for pair in order for number in pair])
 
 
 def how_many_records(kind, layout, size):
