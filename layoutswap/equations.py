@@ -41,7 +41,7 @@ class Parts:
             number = leaders[number]
         return number
 
-    def joined(self, pairs):
+    def solve(self, pairs):
         """Make the numbers in each pair equal, and so their parts; return whether no two different tags meet."""
         waiting = list(pairs)
         while waiting:

@@ -22,7 +22,7 @@ def solved(row):
         return None
     parts = Parts(len(holes_of(patterns)))
     roots = parts.numbers_of(patterns)
-    if not parts.joined(list(zip(roots, parts.numbers_of(images)))):
+    if not parts.solve(list(zip(roots, parts.numbers_of(images)))):
         return None
     leaders = [parts.leader(root) for root in roots]
     order = parts.ahead_of_parts(leaders)
