@@ -56,7 +56,7 @@ class Bench:
         self.steps.extend(steps)
         self.undoing.append(undoing)
 
-    def steps_back(self):
+    def undoing_steps(self):
         """Return the list of the steps that undo all that was done."""
         return [step for steps in self.undoing[::-1] for step in steps]
 

@@ -30,51 +30,44 @@ def meeting(cell, members):
 
 
 def most_tagged(met):
-    """Return the hole at which most members have a tag, and how many these are; (None, 0) if none has any."""
+    """Return the hole at which most members have a tag, None if none has any."""
     counts = {}
     for _, holes in met:
         for hole in holes:
             counts[hole] = counts.get(hole, 0) + 1
-    best, most = None, 0
+    best = None
     for hole, many in counts.items():
-        if many > most:
-            best, most = hole, many
-    return (best, most)
+        if best is None or many > counts[best]:
+            best = hole
+    return best
 
 
-def points_of(cell, met):
-    """Return the list of the indexes at which members that meet a cell begin, or at which others can begin."""
+def points_between(cell, met):
+    """Return the list of the indexes in a cell at which members begin or others can begin, and none is parted."""
     starts = [member[2] for member, _ in met] + [member[3] + 1 for member, _ in met]
-    return [point for point in starts if cell[1] < point <= cell[2]]
-
-
-def parts_none(point, met):
-    """Tell whether an index lies within none of the members."""
-    return all([member[3] < point or point <= member[2] for member, _ in met])
+    within = [point for point in starts if cell[1] < point <= cell[2]]
+    return [point for point in within if all([member[3] < point or point <= member[2] for member, _ in met])]
 
 
 def done_next(bench, number, met):
     """Part or open a cell that some members meet, and return the numbers of the cells that come; [] if it is in one.
 
-    Where it can be, no member is parted.
+    No member is parted at an index. Members of which none has a tag in the cell lie
+    side by side there, so if there is no point between them the cell is in one.
     """
-    cell = bench.cells[number]
-    hole, most = most_tagged(met)
-    points = points_of(cell, met)
-    if most == 0 and not points:
-        return []
-    if most == len(met):
-        return bench.open_hole(number, hole)
-    clean = [point for point in points if parts_none(point, met)]
-    if clean:
-        return bench.cut(number, clean[0])
-    return bench.open_hole(number, hole) if most > 0 else bench.cut(number, points[0])
+    points = points_between(bench.cells[number], met)
+    if points:
+        return bench.cut(number, points[0])
+    hole = most_tagged(met)
+    return [] if hole is None else bench.open_hole(number, hole)
 
 
 def parted(bench, number, members):
     """Part and open a cell until each cell that comes lies within a member or meets none.
 
-    Return the list of the (number of a cell, label of its member, or None).
+    Return the list of the (number of a cell, label of its member, or None). If the
+    members come from opening the cell hole by hole, there is one cell for each of
+    them: at each time there is a hole at which all that meet the cell have a tag.
     """
     found = []
     waiting = [(number, members)]

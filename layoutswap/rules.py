@@ -57,40 +57,27 @@ def cells_by_row(bench, some, word):
 
 
 def in_both(row, cell, behind):
-    """Return what a cell of the source and one of the target, both of a row, have in common, on both sides, or None.
+    """Return the patterns of what a cell of the source and one of the target, both of a row, have in common, or None.
 
-    Each side is a tuple (low, high, patterns).
+    They are told on both sides: in the source and in the target. No row is parted at
+    an index, so both cells have all places of the row.
     """
     worth, images = matched(row[3], cell[3]), matched(row[6], behind[3])
     bound = bindings([worth[hole] for hole in range(len(worth))], [images[hole] for hole in range(len(worth))])
-    shift = row[5] - row[1]
-    low = cell[1] if cell[1] > behind[1] - shift else behind[1] - shift
-    high = cell[2] if cell[2] < behind[2] - shift else behind[2] - shift
-    if bound is None or low > high:
-        return None
-    return ((low, high, substituted(cell[3], bound)), (low + shift, high + shift, substituted(behind[3], bound)))
+    return None if bound is None else (substituted(cell[3], bound), substituted(behind[3], bound))
 
 
-def members_in_both(row, place, ahead, behind, numbers, others):
-    """Return what the cells of a row in the source, and those in the target, have in common with each other.
-
-    These are two dicts from the cells to lists of members, with the same labels on both sides.
-    """
+def part_alike(ahead, behind, row, numbers, others):
+    """Open the cells of a row in the source and in the target until they are the same, and return pairs of them."""
     found = {number: [] for number in numbers}
     told = {other: [] for other in others}
     for number in numbers:
         for other in others:
             both = in_both(row, ahead.cells[number], behind.cells[other])
             if both is not None:
-                label = (place, number, other)
-                found[number].append((label, row[0]) + both[0])
-                told[other].append((label, row[4]) + both[1])
-    return (found, told)
-
-
-def part_alike(ahead, behind, row, place, numbers, others):
-    """Open the cells of a row in the source and in the target until they are the same, and return pairs of them."""
-    found, told = members_in_both(row, place, ahead, behind, numbers, others)
+                label = (number, other)
+                found[number].append((label, row[0], row[1], row[2], both[0]))
+                told[other].append((label, row[4], row[5], row[5] + row[2] - row[1], both[1]))
     cells = {}
     for number in numbers:
         for cell, label in parted(ahead, number, found[number]):
@@ -140,10 +127,10 @@ def migration_by(kind, source, target, some):
     others = cells_by_row(behind, backwards, "unmet")
     pairs = {}
     for place, row in enumerate(some):
-        for cell, other in part_alike(ahead, behind, row, place, numbers[place], others[place]):
+        for cell, other in part_alike(ahead, behind, row, numbers[place], others[place]):
             pairs[other] = (cell, row)
     set_in_order(ahead, behind, pairs)
-    return Migration(kind, source, ahead.steps + behind.steps_back())
+    return Migration(kind, source, ahead.steps + behind.undoing_steps())
 
 
 def count_led(kind, some, record):

@@ -82,7 +82,7 @@ def smallest(kind, row, parts, roots, order):
     return (row[0], row[1], tuple([trees[root] for root in roots]))
 
 
-def least_size(parts, roots, order):
+def least_staying(parts, roots, order):
     """Return the size of the smallest record that stays."""
     set_tags, times = amounts(parts, roots, order)
     return set_tags + sum(times)
@@ -91,7 +91,7 @@ def least_size(parts, roots, order):
 def first_staying(migration):
     """Return the first record that stays, or None."""
     kind = migration.kind
-    told = [(least_size(parts, roots, order), row, parts, roots, order)
+    told = [(least_staying(parts, roots, order), row, parts, roots, order)
             for row, parts, roots, order in rows_with_staying(migration)]
     if not told:
         return None

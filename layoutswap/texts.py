@@ -27,7 +27,7 @@ def token_end(text, at):
     return run_end(text, at, DIGITS) if text[at] in DIGITS else at + 1
 
 
-def is_number(word):
+def is_integer_word(word):
     """Tell whether a word, not empty, is an integer."""
     if not all([sign in DIGITS for sign in word]):
         return False
@@ -42,7 +42,7 @@ def tokens_of(text):
         end = token_end(text, at)
         word = text[at:end]
         if word not in SPACES:
-            if not is_name(word) and not is_number(word) and word not in SIGNS:
+            if not is_name(word) and not is_integer_word(word) and word not in SIGNS:
                 raise SyntaxProblem(1, at + 1)
             found.append((word, at + 1))
         at = end
@@ -74,20 +74,20 @@ class Reader:
 
     def integer(self):
         """Take an integer, as great as it may be."""
-        return int(self.taken(self.present() != "" and is_number(self.present())))
+        return int(self.taken(self.present() != "" and is_integer_word(self.present())))
 
     def number_of_trees(self):
         """Take an integer that is the number of a record's trees."""
-        fits = self.present() != "" and is_number(self.present())
+        fits = self.present() != "" and is_integer_word(self.present())
         return int(self.taken(fits and int(self.present()) <= MOST_DEGREE))
 
-    def sign(self, sign):
+    def sign(self, wanted):
         """Take this sign or word."""
-        return self.taken(self.present() == sign)
+        return self.taken(self.present() == wanted)
 
-    def goes_on_with(self, sign):
-        """Take this sign if it is the present token, and tell whether it is."""
-        if self.present() != sign:
+    def goes_on_with(self, wanted):
+        """Take this sign or word if it is the present token, and tell whether it is."""
+        if self.present() != wanted:
             return False
         self.at = self.at + 1
         return True

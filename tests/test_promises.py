@@ -15,7 +15,7 @@ from layoutswap.fewest import closed_paper, distance, price_paper, shortest, sho
 from layoutswap.finder import migration_to
 from layoutswap.layouts import Layout
 from layoutswap.migrations import Migration
-from layoutswap.records import how_many_records, is_record, records_of
+from layoutswap.records import how_many_records, is_record, records_of, size_of_record
 from layoutswap.rests import are_like
 from layoutswap.rows import by_rows, row_of, rows, shows_rows
 from layoutswap.rules import migration_by, shows_fault
@@ -25,7 +25,7 @@ from layoutswap.texts import (
     format_kind, format_layout, format_record, format_steps, format_tree, parse_kind, parse_layout, parse_record, parse_steps, parse_tree,
 )
 from loops import in_turn, loop, loops
-from oracle import BINARY, KINDS
+from oracle import BINARY, EVEN, FOUR, KINDS, MOTZKIN
 from tables import table, weight
 from test_migrations import walks
 
@@ -102,6 +102,36 @@ class Migrations(unittest.TestCase):
                 self.assertNotEqual(migration(found), other(found))
                 ahead = [record for record in in_turn(migration.kind, migration.source, 3) if migration(record) != other(record)]
                 self.assertEqual(ahead[:1] or [found], [found])
+
+    def test_migrations_by_tables_against_records_led_one_by_one(self):
+        chance = random.Random(5)
+        starts = [(BINARY, (0, 1), 9), (BINARY, (0, 2, 1), 7), (MOTZKIN, (1, 1, 1), 5), (EVEN, (0, 1), 4), (FOUR, (0, 0, 1), 10)]
+        for kind, factors, sizes in starts * 3:
+            layout = Layout(factors)
+            one, other = [migration_by(kind, layout, layout, table(kind, factors, chance.randint(1, 30), chance)) for _ in range(2)]
+            records = [record for size in range(sizes + 1) for record in records_of(kind, layout, size)]
+            made = [one, other, one >> other, ~other >> one >> other, one ** 3]
+            images = [[migration(record) for record in records] for migration in made]
+            for at, migration in enumerate(made):
+                self.check_staying(migration, records, images[at], sizes)
+                for more in range(at):
+                    self.check_difference(migration, made[more], [
+                        record for record, image, told in zip(records, images[at], images[more]) if image != told
+                    ])
+
+    def check_staying(self, migration, records, images, sizes):
+        """Compare with the records that stay, all of them up to some size."""
+        stayed = [record for record, image in zip(records, images) if record == image]
+        for size in range(sizes + 1):
+            self.assertEqual(staying(migration, size), sum(size_of_record(record) == size for record in stayed))
+        if stayed:
+            self.assertEqual(first_staying(migration), stayed[0])
+
+    def check_difference(self, one, other, different):
+        """Compare with the records that are led to two different ones, all of them up to some size."""
+        self.assertIs(are_alike(one, other), first_difference(one, other) is None)
+        if different:
+            self.assertEqual(first_difference(one, other), different[0])
 
     def test_the_records_that_stay_are_counted_for_each_size(self):
         for migration in loops(2, 97):

@@ -257,11 +257,9 @@ class ShowsRows(Case):
             self.assertIs(shows_rows(migration, found), True)
             chance.shuffle(found)
             self.assertIs(shows_rows(migration, found), True)
-            kept = list(found)
             for _ in range(4):
                 found = finer(migration.kind, found, chance) if found else found
             self.assertIs(shows_rows(migration, found), True)
-            self.assertEqual(kept, kept[:])
 
     def test_coarser_rows(self):
         self.assertIs(shows_rows(OPENED >> ~OPENED, [(1, 0, 0, (0,), 1, 0, (0,))]), True)

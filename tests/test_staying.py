@@ -1,6 +1,7 @@
 """The records that stay at a migration (points 2 and 13, stage 9 of the interface)."""
 
 import unittest
+from unittest import mock
 
 from layoutswap import staying as staying_file
 from layoutswap.errors import Mismatch, TooMany
@@ -147,13 +148,26 @@ class Staying(Case):
             self.assert_too_many(first_staying, migration)
         self.assertEqual(told, [[0] * 4] * 6)
 
+    def test_just_400_tags(self):
+        # The rows are told by hand: one tree alone stays, of just so many tags.
+        still = Migration.nothing(MOTZKIN, T)
+        for tags in (399, 400, 401, 402):
+            tree = ("a",)
+            for _ in range(tags - 1):
+                tree = ("u", tree)
+            with mock.patch.object(staying_file, "rows", lambda migration, tree=tree: [(1, 0, 0, (tree,), 1, 0, (tree,))]):
+                if tags <= 400:
+                    self.assertEqual(first_staying(still), (1, 0, (tree,)))
+                else:
+                    self.assert_too_many(first_staying, still)
+
     def test_sizes_of_hundreds_of_levels(self):
         # Rows as they come from some hundred steps: what stays by them has far more tags than could be written out.
         for levels in (30, 100, 300):
             patterns, images = doubling(BINARY, levels)
             row = (len(patterns), 3, 4, tuple(patterns), len(images), 3, tuple(images))
             parts, roots, order = staying_file.solved(row)
-            self.assertGreater(staying_file.least_size(parts, roots, order), 2 ** levels)
+            self.assertGreater(staying_file.least_staying(parts, roots, order), 2 ** levels)
             self.assertIsNone(staying_file.solved((len(patterns), 3, 4, tuple(patterns), len(images), 2, tuple(images))))
 
     def test_many_rows(self):
