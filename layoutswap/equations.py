@@ -1,24 +1,23 @@
-"""Equations between patterns, solved by numbers that stand for their parts.
+"""Parts of patterns with numbers, equal parts with the same one, and equations between them.
 
-Each hole has a number, and each tag another one wherever it stands. Numbers of
-equal parts are joined, and one of them is their leader. What stands often in the
-trees of a solution stands here once: they may be too large to be written out.
+Parts may be deep, and stand very often in the trees of a solution; told by their
+numbers they are compared at once, and stand here only once.
 """
 
 from layoutswap.patterns import nodes_ahead
 
 
 class Parts:
-    """Numbered parts of patterns, and which of them are equal."""
+    """The numbers of parts of patterns: the holes are their own numbers, tags with equal parts have the same one."""
 
     def __init__(self, many):
-        """Begin with so many holes, each with its own number."""
+        """Begin with so many holes."""
         self.tags = [None for _ in range(many)]
-        self.below = [[] for _ in range(many)]
-        self.leaders = list(range(many))
+        self.below = [() for _ in range(many)]
+        self.known = {}
 
     def numbers_of(self, patterns):
-        """Give numbers to all tags of some patterns, and return the list of the numbers of the patterns."""
+        """Return the list of the numbers of some patterns."""
         built = []
         for node in nodes_ahead(patterns)[::-1]:
             if isinstance(node, int):
@@ -26,12 +25,27 @@ class Parts:
             else:
                 tag, parts = node
                 start = len(built) - parts
-                self.tags.append(tag)
                 # Those behind the tag were numbered first, from the right, so its parts stand in reverse.
-                self.below.append(built[start:][::-1])
-                self.leaders.append(len(self.leaders))
-                built[start:] = [len(self.leaders) - 1]
+                built[start:] = [self.number_with(tag, tuple(built[start:][::-1]))]
         return built[::-1]
+
+    def number_with(self, tag, below):
+        """Return the number of a tag with parts of these numbers."""
+        key = (tag,) + below
+        if key not in self.known:
+            self.known[key] = len(self.tags)
+            self.tags.append(tag)
+            self.below.append(below)
+        return self.known[key]
+
+
+class Equations:
+    """Which numbers of parts are equal: those with the same leader, which is one of them."""
+
+    def __init__(self, parts):
+        self.tags = parts.tags
+        self.below = parts.below
+        self.leaders = list(range(len(parts.tags)))
 
     def leader(self, number):
         """Return the number that stands for all that are equal to this one."""
@@ -80,13 +94,12 @@ class Parts:
                 waiting.extend([(part, False) for part in below])
         return found[::-1]
 
-
-def times_used(parts, roots, order):
-    """Return the dict from each of the leaders in order to how often it stands in the trees of the roots."""
-    times = {number: 0 for number in order}
-    for root in roots:
-        times[root] = times[root] + 1
-    for number in order:
-        for part in parts.parts_below(number):
-            times[part] = times[part] + times[number]
-    return times
+    def times_used(self, roots, order):
+        """Return the dict from each of the leaders in order to how often it stands in the trees of the roots."""
+        times = {number: 0 for number in order}
+        for root in roots:
+            times[root] = times[root] + 1
+        for number in order:
+            for part in self.parts_below(number):
+                times[part] = times[part] + times[number]
+        return times

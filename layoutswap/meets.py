@@ -7,10 +7,10 @@ HOLE = 0
 ROWS = -1
 
 
-def mirrored(row):
-    """Return a row with other integers as holes: below 0, so that another row's holes are different ones."""
+def shifted(row, many):
+    """Return a row with its holes shifted behind so many others."""
     k, low, high, patterns, degree, first, images = row
-    worth = {hole: -1 - hole for hole in holes_of(patterns)}
+    worth = {hole: hole + many for hole in holes_of(patterns)}
     return (k, low, high, substituted(patterns, worth), degree, first, substituted(images, worth))
 
 

@@ -4,7 +4,7 @@ from layoutswap.bench import Bench
 from layoutswap.deviations import first_trees
 from layoutswap.errors import NoRow, NoTable
 from layoutswap.kinds import check_kind
-from layoutswap.meets import mirrored
+from layoutswap.meets import shifted
 from layoutswap.migrations import Migration
 from layoutswap.partings import parted
 from layoutswap.patterns import bindings, holes_of, matched, substituted
@@ -27,7 +27,7 @@ def common_record(kind, row, other):
     low = row[1] if row[1] > other[1] else other[1]
     if row[0] != other[0] or low > row[2] or low > other[2]:
         return None
-    worth = bindings(row[3], mirrored(other)[3])
+    worth = bindings(row[3], shifted(other, len(holes_of(row[3])))[3])
     return None if worth is None else (row[0], low, first_trees(kind, substituted(row[3], worth), []))
 
 

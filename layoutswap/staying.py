@@ -1,6 +1,6 @@
 """The records that stay at a migration: how many there are of a size, and the first one."""
 
-from layoutswap.equations import Parts, times_used
+from layoutswap.equations import Equations, Parts
 from layoutswap.errors import Mismatch, TooMany
 from layoutswap.forests import counts_by_size
 from layoutswap.ordering import in_order
@@ -13,7 +13,7 @@ MOST_TAGS = 400
 
 
 def solved(row):
-    """Return (parts, roots, order) of the records that stay by a row, None if there are none.
+    """Return the solution (equations, roots, order) for the records that stay by a row, None if there are none.
 
     Order has the leaders of all parts, each ahead of its own parts; those without a tag may be any trees.
     """
@@ -21,27 +21,36 @@ def solved(row):
     if k != degree or low != first:
         return None
     parts = Parts(len(holes_of(patterns)))
-    roots = parts.numbers_of(patterns)
-    if not parts.solve(list(zip(roots, parts.numbers_of(images)))):
+    numbers = parts.numbers_of(patterns)
+    pairs = list(zip(numbers, parts.numbers_of(images)))
+    equations = Equations(parts)
+    if not equations.solve(pairs):
         return None
-    leaders = [parts.leader(root) for root in roots]
-    order = parts.ahead_of_parts(leaders)
-    return None if order is None else (parts, leaders, order)
+    roots = [equations.leader(number) for number in numbers]
+    order = equations.ahead_of_parts(roots)
+    return None if order is None else (equations, roots, order)
 
 
 def rows_with_staying(migration):
-    """Return the list of (row, parts, roots, order) for all rows of a migration by which records stay."""
+    """Return the list of (row, solution) for all rows of a migration by which records stay."""
     if migration.source != migration.target:
         raise Mismatch("source and target are different")
     found = [(row, solved(row)) for row in rows(migration)]
-    return [(row,) + told for row, told in found if told is not None]
+    return [(row, solution) for row, solution in found if solution is not None]
 
 
-def amounts(parts, roots, order):
+def amounts(solution):
     """Return the number of the tags that are set, and the list of how often each tree stands that may be any."""
-    times = times_used(parts, roots, order)
-    set_tags = sum([times[number] for number in order if parts.tags[number] is not None])
-    return (set_tags, [times[number] for number in order if parts.tags[number] is None])
+    equations, roots, order = solution
+    times = equations.times_used(roots, order)
+    set_tags = sum([times[number] for number in order if equations.tags[number] is not None])
+    return (set_tags, [times[number] for number in order if equations.tags[number] is None])
+
+
+def least_size(solution):
+    """Return the size of the smallest record that stays."""
+    set_tags, times = amounts(solution)
+    return set_tags + sum(times)
 
 
 def ways(counts, set_tags, times):
@@ -66,37 +75,31 @@ def staying(migration, size):
     told = rows_with_staying(migration)
     counts = [many[1] for many in counts_by_size(migration.kind, size, 1)]
     total = 0
-    for row, parts, roots, order in told:
-        set_tags, times = amounts(parts, roots, order)
+    for row, solution in told:
+        set_tags, times = amounts(solution)
         total = total + (row[2] - row[1] + 1) * ways(counts, set_tags, times)
     return total
 
 
-def smallest(kind, row, parts, roots, order):
+def smallest(kind, row, solution):
     """Return the first record that stays by a row."""
+    equations, roots, order = solution
     trees = {}
     for number in order[::-1]:
-        tag = parts.tags[number]
-        below = [trees[part] for part in parts.parts_below(number)]
+        tag = equations.tags[number]
+        below = [trees[part] for part in equations.parts_below(number)]
         trees[number] = numbered_tree(kind, 0) if tag is None else (tag,) + tuple(below)
     return (row[0], row[1], tuple([trees[root] for root in roots]))
-
-
-def least_staying(parts, roots, order):
-    """Return the size of the smallest record that stays."""
-    set_tags, times = amounts(parts, roots, order)
-    return set_tags + sum(times)
 
 
 def first_staying(migration):
     """Return the first record that stays, or None."""
     kind = migration.kind
-    told = [(least_staying(parts, roots, order), row, parts, roots, order)
-            for row, parts, roots, order in rows_with_staying(migration)]
+    told = [(least_size(solution), row, solution) for row, solution in rows_with_staying(migration)]
     if not told:
         return None
-    least = in_order([(one[0], one[0]) for one in told])[0]
+    least = in_order([(size, size) for size, _, _ in told])[0]
     if least > MOST_TAGS:
         raise TooMany(MOST_TAGS)
-    found = [smallest(kind, row, parts, roots, order) for size, row, parts, roots, order in told if size == least]
+    found = [smallest(kind, row, solution) for size, row, solution in told if size == least]
     return in_order([(order_of_record(kind, record), record) for record in found])[0]

@@ -137,6 +137,19 @@ class Differences(Case):
         self.assertEqual(first_difference(cuts(500, 400), Migration.nothing(BINARY, Layout((500,)))), (0, 0, ()))
 
 
+    def test_many_rows_that_all_meet(self):
+        # The one migration parts the first trees of two, the other one the second ones.
+        first = Migration(BINARY, T, chain(BINARY, 398)) << 1
+        turn = Migration(BINARY, T ** 2, (("turn", 2, 1, 2),))
+        first = first >> ~first
+        second = turn >> first >> turn
+        self.assertEqual((len(rows(first)), len(rows(second))), (399, 399))
+        self.assertIs(are_alike(first, second), True)
+        self.assertIs(are_alike(turn >> second, second >> turn), True)
+        self.assertIs(first_difference(turn >> second, second >> turn), None)
+        self.assertEqual(first_difference(first, turn >> second), (2, 0, (LEAF, JOIN)))
+
+
 class Alike(Case):
     def test_back_and_forth(self):
         for many in (1, 4, 7):

@@ -166,8 +166,7 @@ class Staying(Case):
         for levels in (30, 100, 300):
             patterns, images = doubling(BINARY, levels)
             row = (len(patterns), 3, 4, tuple(patterns), len(images), 3, tuple(images))
-            parts, roots, order = staying_file.solved(row)
-            self.assertGreater(staying_file.least_staying(parts, roots, order), 2 ** levels)
+            self.assertGreater(staying_file.least_size(staying_file.solved(row)), 2 ** levels)
             self.assertIsNone(staying_file.solved((len(patterns), 3, 4, tuple(patterns), len(images), 2, tuple(images))))
 
     def test_many_rows(self):
