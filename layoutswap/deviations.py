@@ -90,8 +90,8 @@ def first_trees(kind, patterns, told):
     """
     holes = holes_of(patterns)
     worth = {hole: numbered_tree(kind, 0) for hole in holes}
-    for hole in [hole for hole in holes if hole in told][-1:]:
-        worth[hole] = numbered_tree(kind, 1)
+    for last in [hole for hole in holes if hole in told][-1:]:
+        worth[last] = numbered_tree(kind, 1)
     return substituted(patterns, worth)
 
 

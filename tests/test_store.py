@@ -168,7 +168,7 @@ class Play(Case):
         """A record of a layout by chance, or sometimes something that is none."""
         if self.chance.random() < 0.1 or layout.factors == ():
             return self.chance.choice([None, (0, 10 ** 9, ()), (1, 0, ()), [], (3, -1, ())])
-        return numbered_record(self.kind, layout, self.chance.choice((0, 1, 2, 5, 20, 300))) or (0, 0, ()) * layout[0] or None
+        return numbered_record(self.kind, layout, self.chance.choice((0, 1, 2, 5, 20, 300)))
 
     def some_steps(self, layout):
         """A few steps at a layout by chance, with few places behind them; sometimes a wrong one among them."""
